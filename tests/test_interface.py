@@ -1,0 +1,75 @@
+import ast
+import contextlib
+import inspect
+import io
+import pathlib
+import unittest
+
+import eightbytes
+from eightbytes import refs
+from tests.reference import reference
+
+PACKAGE = pathlib.Path(eightbytes.__file__).parent
+PARAMETERS = {"look": ["v"], "root": ["rights"]}
+CALLS = [
+    (refs.look, (0,)),
+    (refs.look, (2 ** 64 - 1,)),
+    (refs.look, (reference(address=5, upper=3, lower=9, power=15, seal=2, rights=300),)),
+    (refs.look, (reference(address=5, upper=3, lower=9, power=0),)),
+    (refs.root, (0,)),
+    (refs.root, (256,)),
+    (refs.root, (511,)),
+    (refs.root, (2 ** 32 - 1,)),
+]
+
+
+class Kinds(unittest.TestCase):
+    def test_names_and_parameters(self):
+        for name, parameters in PARAMETERS.items():
+            call = getattr(eightbytes.refs, name)
+            self.assertEqual(list(inspect.signature(call).parameters), parameters)
+
+    def test_by_parameter_name(self):
+        self.assertEqual(refs.look(v=10), refs.look(10))
+        self.assertEqual(refs.root(rights=10), refs.root(10))
+
+    def test_a_list_of_whole_numbers(self):
+        for call, given in CALLS:
+            answer = call(*given)
+            self.assertIs(type(answer), list)
+            for number in answer:
+                self.assertIs(type(number), int)
+
+    def test_how_many_numbers(self):
+        for call, given in CALLS:
+            self.assertEqual(len(call(*given)), 7 if call == refs.look else 2)
+
+
+class NothingKept(unittest.TestCase):
+    def test_the_same_call_twice(self):
+        first = [call(*given) for call, given in CALLS]
+        second = [call(*given) for call, given in reversed(CALLS)]
+        self.assertEqual(first, second[::-1])
+
+    def test_an_answer_that_is_changed_changes_no_later_one(self):
+        for call, given in CALLS:
+            answer = call(*given)
+            before = list(answer)
+            answer.clear()
+            self.assertEqual(call(*given), before)
+
+    def test_nothing_is_printed(self):
+        out, err = io.StringIO(), io.StringIO()
+        with contextlib.redirect_stdout(out), contextlib.redirect_stderr(err):
+            for call, given in CALLS:
+                call(*given)
+        self.assertEqual(out.getvalue() + err.getvalue(), "")
+
+    def test_nothing_is_imported(self):
+        for path in sorted(PACKAGE.glob("*.py")):
+            for node in ast.walk(ast.parse(path.read_text(encoding="ascii"))):
+                self.assertNotIsInstance(node, (ast.Import, ast.ImportFrom))
+
+
+if __name__ == "__main__":
+    unittest.main()
