@@ -9,7 +9,9 @@ MARK_BITS = 255
 POWER_BITS = 15
 SEAL_BITS = 7
 RIGHTS_BITS = 511
+ALL_BITS = 18446744073709551615
 
+ADDRESS_PLACE = 0
 UPPER_PLACE = 32
 LOWER_PLACE = 40
 POWER_PLACE = 48
@@ -17,6 +19,7 @@ SEAL_PLACE = 52
 RIGHTS_PLACE = 55
 
 WINDOW_GRAINS = 256
+MOST_GRAINS = 255
 WIDEST_POWER = 15
 WIDEST_GRAIN_POWER = 24
 
@@ -54,9 +57,13 @@ def grain_power(power):
     return power
 
 
+def grain_of(power):
+    return 1 << grain_power(power)
+
+
 def begin_of(v):
     """Where v begins; below 0 if its address lies below the lower mark's place in the first window."""
-    grain = 1 << grain_power(power_of(v))
+    grain = grain_of(power_of(v))
     window = WINDOW_GRAINS * grain
     mark = lower_of(v) * grain
     # Floor division rounds downwards below 0 too: the beginning is never above the address.
@@ -64,8 +71,44 @@ def begin_of(v):
 
 
 def length_of(v):
-    grain = 1 << grain_power(power_of(v))
-    return (upper_of(v) - lower_of(v)) % WINDOW_GRAINS * grain
+    return (upper_of(v) - lower_of(v)) % WINDOW_GRAINS * grain_of(power_of(v))
+
+
+def end_of(v):
+    return begin_of(v) + length_of(v)
+
+
+def covers(v, begin, end):
+    return begin_of(v) <= begin and end <= end_of(v)
+
+
+def may_change(v, good):
+    return good == 1 and seal_of(v) == 0
+
+
+def with_part(v, bits, place, part):
+    return v & (ALL_BITS ^ (bits << place)) | (part << place)
+
+
+def with_stretch(v, power, first, behind):
+    """v with that power and the marks of the grains from first up to, and not with, behind."""
+    powered = with_part(v, POWER_BITS, POWER_PLACE, power)
+    lowered = with_part(powered, MARK_BITS, LOWER_PLACE, first % WINDOW_GRAINS)
+    return with_part(lowered, MARK_BITS, UPPER_PLACE, behind % WINDOW_GRAINS)
+
+
+def grains_up_to(end, grain):
+    return (end + grain - 1) // grain
+
+
+def least_power(begin, end):
+    """The least power by which that stretch, rounded outwards, is not too many grains; None if there is none."""
+    for power in range(WIDEST_POWER + 1):
+        grain = grain_of(power)
+        # Counted from both rounded ends: the length alone may miss one grain.
+        if grains_up_to(end, grain) - begin // grain <= MOST_GRAINS:
+            return power
+    return None
 
 
 def look(v):
@@ -78,3 +121,24 @@ def root(rights):
     power = WIDEST_POWER << POWER_PLACE
     kept = (rights & RIGHTS_BITS) << RIGHTS_PLACE
     return [1, upper | power | kept]
+
+
+def move(v, good, to):
+    moved = with_part(v, ADDRESS_BITS, ADDRESS_PLACE, to)
+    # The marks are told by the address's window, so another address may tell another stretch.
+    stays = may_change(v, good) and begin_of(moved) == begin_of(v)
+    return [1 if stays else 0, moved]
+
+
+def bound(v, good, n, just):
+    begin = address_of(v)
+    end = begin + n
+    power = least_power(begin, end)
+    if n == 0 or power is None:
+        return [0, v]
+    grain = grain_of(power)
+    first = begin // grain
+    behind = grains_up_to(end, grain)
+    exact = first * grain == begin and behind * grain == end
+    stays = may_change(v, good) and covers(v, begin, end) and (just == 0 or exact)
+    return [1 if stays else 0, with_stretch(v, power, first, behind)]

@@ -10,7 +10,14 @@ from eightbytes import refs
 from tests.reference import reference
 
 PACKAGE = pathlib.Path(eightbytes.__file__).parent
-PARAMETERS = {"look": ["v"], "root": ["rights"]}
+PARAMETERS = {
+    "look": ["v"],
+    "root": ["rights"],
+    "move": ["v", "good", "to"],
+    "bound": ["v", "good", "n", "just"],
+}
+SMALL = reference(address=300, upper=60, lower=40, rights=257)
+SEALED = reference(address=300, upper=60, lower=40, seal=3, rights=257)
 CALLS = [
     (refs.look, (0,)),
     (refs.look, (2 ** 64 - 1,)),
@@ -20,6 +27,19 @@ CALLS = [
     (refs.root, (256,)),
     (refs.root, (511,)),
     (refs.root, (2 ** 32 - 1,)),
+    (refs.move, (SMALL, 1, 301)),
+    (refs.move, (SMALL, 1, 0)),
+    (refs.move, (SMALL, 0, 301)),
+    (refs.move, (SEALED, 1, 301)),
+    (refs.move, (2 ** 64 - 1, 1, 2 ** 32 - 1)),
+    (refs.bound, (SMALL, 1, 16, 1)),
+    (refs.bound, (SMALL, 1, 17, 0)),
+    (refs.bound, (SMALL, 1, 0, 0)),
+    (refs.bound, (SMALL, 0, 16, 1)),
+    (refs.bound, (SEALED, 1, 16, 1)),
+    (refs.bound, (reference(address=1, upper=255, power=15), 1, 256, 0)),
+    (refs.bound, (reference(address=1, upper=255, power=15), 1, 256, 1)),
+    (refs.bound, (2 ** 64 - 1, 1, 2 ** 32 - 1, 1)),
 ]
 
 
@@ -32,6 +52,8 @@ class Kinds(unittest.TestCase):
     def test_by_parameter_name(self):
         self.assertEqual(refs.look(v=10), refs.look(10))
         self.assertEqual(refs.root(rights=10), refs.root(10))
+        self.assertEqual(refs.move(v=SMALL, good=1, to=301), refs.move(SMALL, 1, 301))
+        self.assertEqual(refs.bound(v=SMALL, good=1, n=16, just=0), refs.bound(SMALL, 1, 16, 0))
 
     def test_a_list_of_whole_numbers(self):
         for call, given in CALLS:

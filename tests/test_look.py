@@ -2,7 +2,7 @@ import itertools
 import unittest
 
 from eightbytes.refs import look
-from tests.reference import parts, reference
+from tests.reference import parts, reference, scattered
 
 TOP = 2 ** 64
 LAST = 2 ** 32 - 1
@@ -133,13 +133,9 @@ class LookAtMany(unittest.TestCase):
                 self.check(reference(address, upper, lower, power, upper % 8, lower + 256))
 
     def test_scattered(self):
-        v = 1
-        for step in range(3000):
-            v = (v * 6364136223846793005 + 1442695040888963407) % TOP
-            # The lowest bits of such a row repeat soon: the halves change places.
-            swapped = (v >> 32) | ((v % 2 ** 32) << 32)
-            with self.subTest(v=swapped):
-                self.check(swapped)
+        for v in scattered(3000):
+            with self.subTest(v=v):
+                self.check(v)
 
 
 if __name__ == "__main__":
