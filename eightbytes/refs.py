@@ -23,6 +23,9 @@ MOST_GRAINS = 255
 WIDEST_POWER = 15
 WIDEST_GRAIN_POWER = 24
 
+LAST_SEAL = 7
+RIGHT_TO_SEAL = 256
+
 WRAP = 18446744073709551616
 
 
@@ -86,6 +89,13 @@ def may_change(v, good):
     return good == 1 and seal_of(v) == 0
 
 
+def may_seal(y, ygood):
+    """Whether y may seal, or open, by its address."""
+    address = address_of(y)
+    allowed = (rights_of(y) & RIGHT_TO_SEAL) == RIGHT_TO_SEAL
+    return may_change(y, ygood) and allowed and covers(y, address, address + 1)
+
+
 def with_part(v, bits, place, part):
     return v & (ALL_BITS ^ (bits << place)) | (part << place)
 
@@ -125,7 +135,7 @@ def root(rights):
 
 def move(v, good, to):
     moved = with_part(v, ADDRESS_BITS, ADDRESS_PLACE, to)
-    # The marks are told by the address's window, so another address may tell another stretch.
+    # The marks count within the address's window, so another address may tell another stretch.
     stays = may_change(v, good) and begin_of(moved) == begin_of(v)
     return [1 if stays else 0, moved]
 
@@ -142,3 +152,15 @@ def bound(v, good, n, just):
     exact = first * grain == begin and behind * grain == end
     stays = may_change(v, good) and covers(v, begin, end) and (just == 0 or exact)
     return [1 if stays else 0, with_stretch(v, power, first, behind)]
+
+
+def less(v, good, rights):
+    lessened = with_part(v, RIGHTS_BITS, RIGHTS_PLACE, rights_of(v) & rights)
+    return [1 if may_change(v, good) else 0, lessened]
+
+
+def seal(v, good, y, ygood):
+    mark = address_of(y)
+    if may_change(v, good) and may_seal(y, ygood) and 1 <= mark <= LAST_SEAL:
+        return [1, with_part(v, SEAL_BITS, SEAL_PLACE, mark)]
+    return [0, v]

@@ -15,8 +15,11 @@ PARAMETERS = {
     "root": ["rights"],
     "move": ["v", "good", "to"],
     "bound": ["v", "good", "n", "just"],
+    "less": ["v", "good", "rights"],
+    "seal": ["v", "good", "y", "ygood"],
 }
 SMALL = reference(address=300, upper=60, lower=40, rights=257)
+SEALER = reference(address=3, upper=8, lower=1, rights=256)
 SEALED = reference(address=300, upper=60, lower=40, seal=3, rights=257)
 CALLS = [
     (refs.look, (0,)),
@@ -40,6 +43,16 @@ CALLS = [
     (refs.bound, (reference(address=1, upper=255, power=15), 1, 256, 0)),
     (refs.bound, (reference(address=1, upper=255, power=15), 1, 256, 1)),
     (refs.bound, (2 ** 64 - 1, 1, 2 ** 32 - 1, 1)),
+    (refs.less, (SMALL, 1, 1)),
+    (refs.less, (SMALL, 0, 0)),
+    (refs.less, (SEALED, 1, 256)),
+    (refs.less, (2 ** 64 - 1, 1, 2 ** 32 - 1)),
+    (refs.seal, (SMALL, 1, SEALER, 1)),
+    (refs.seal, (SMALL, 0, SEALER, 1)),
+    (refs.seal, (SMALL, 1, SEALER, 0)),
+    (refs.seal, (SEALED, 1, SEALER, 1)),
+    (refs.seal, (SMALL, 1, SMALL, 1)),
+    (refs.seal, (2 ** 64 - 1, 1, 2 ** 64 - 1, 1)),
 ]
 
 
@@ -54,6 +67,8 @@ class Kinds(unittest.TestCase):
         self.assertEqual(refs.root(rights=10), refs.root(10))
         self.assertEqual(refs.move(v=SMALL, good=1, to=301), refs.move(SMALL, 1, 301))
         self.assertEqual(refs.bound(v=SMALL, good=1, n=16, just=0), refs.bound(SMALL, 1, 16, 0))
+        self.assertEqual(refs.less(v=SMALL, good=1, rights=1), refs.less(SMALL, 1, 1))
+        self.assertEqual(refs.seal(v=SMALL, good=1, y=SEALER, ygood=1), refs.seal(SMALL, 1, SEALER, 1))
 
     def test_a_list_of_whole_numbers(self):
         for call, given in CALLS:
