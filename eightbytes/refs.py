@@ -164,3 +164,16 @@ def seal(v, good, y, ygood):
     if may_change(v, good) and may_seal(y, ygood) and 1 <= mark <= LAST_SEAL:
         return [1, with_part(v, SEAL_BITS, SEAL_PLACE, mark)]
     return [0, v]
+
+
+def open_seal(v, good, y, ygood):
+    sealed = seal_of(v) != 0
+    if good == 1 and sealed and may_seal(y, ygood) and address_of(y) == seal_of(v):
+        return [1, with_part(v, SEAL_BITS, SEAL_PLACE, 0)]
+    return [0, v]
+
+
+def is_in(v, w):
+    lies_in = covers(w, begin_of(v), end_of(v))
+    has_all = (rights_of(v) & rights_of(w)) == rights_of(v)
+    return [1 if lies_in and has_all and seal_of(v) == seal_of(w) else 0]

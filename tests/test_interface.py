@@ -17,6 +17,8 @@ PARAMETERS = {
     "bound": ["v", "good", "n", "just"],
     "less": ["v", "good", "rights"],
     "seal": ["v", "good", "y", "ygood"],
+    "open_seal": ["v", "good", "y", "ygood"],
+    "is_in": ["v", "w"],
 }
 SMALL = reference(address=300, upper=60, lower=40, rights=257)
 SEALER = reference(address=3, upper=8, lower=1, rights=256)
@@ -53,7 +55,19 @@ CALLS = [
     (refs.seal, (SEALED, 1, SEALER, 1)),
     (refs.seal, (SMALL, 1, SMALL, 1)),
     (refs.seal, (2 ** 64 - 1, 1, 2 ** 64 - 1, 1)),
+    (refs.open_seal, (SEALED, 1, SEALER, 1)),
+    (refs.open_seal, (SEALED, 0, SEALER, 1)),
+    (refs.open_seal, (SEALED, 1, SEALER, 0)),
+    (refs.open_seal, (SMALL, 1, SEALER, 1)),
+    (refs.open_seal, (2 ** 64 - 1, 1, 2 ** 64 - 1, 1)),
+    (refs.is_in, (SMALL, SMALL)),
+    (refs.is_in, (SMALL, SEALED)),
+    (refs.is_in, (SMALL, reference(upper=255, power=15, rights=511))),
+    (refs.is_in, (reference(upper=255, power=15, rights=511), SMALL)),
+    (refs.is_in, (2 ** 64 - 1, 0)),
 ]
+# All other calls answer a number and a reference.
+LENGTHS = {refs.look: 7, refs.is_in: 1}
 
 
 class Kinds(unittest.TestCase):
@@ -69,6 +83,8 @@ class Kinds(unittest.TestCase):
         self.assertEqual(refs.bound(v=SMALL, good=1, n=16, just=0), refs.bound(SMALL, 1, 16, 0))
         self.assertEqual(refs.less(v=SMALL, good=1, rights=1), refs.less(SMALL, 1, 1))
         self.assertEqual(refs.seal(v=SMALL, good=1, y=SEALER, ygood=1), refs.seal(SMALL, 1, SEALER, 1))
+        self.assertEqual(refs.open_seal(v=SEALED, good=1, y=SEALER, ygood=1), refs.open_seal(SEALED, 1, SEALER, 1))
+        self.assertEqual(refs.is_in(v=SMALL, w=2 ** 64 - 1), refs.is_in(SMALL, 2 ** 64 - 1))
 
     def test_a_list_of_whole_numbers(self):
         for call, given in CALLS:
@@ -79,7 +95,7 @@ class Kinds(unittest.TestCase):
 
     def test_how_many_numbers(self):
         for call, given in CALLS:
-            self.assertEqual(len(call(*given)), 7 if call == refs.look else 2)
+            self.assertEqual(len(call(*given)), LENGTHS.get(call, 2))
 
 
 class NothingKept(unittest.TestCase):
