@@ -85,19 +85,23 @@ def covers(v, begin, end):
     return begin_of(v) <= begin and end <= end_of(v)
 
 
+def has_rights(v, rights):
+    asked = rights & RIGHTS_BITS
+    return (rights_of(v) & asked) == asked
+
+
 def may_change(v, good):
     return good == 1 and seal_of(v) == 0
 
 
 def may_seal(y, ygood):
-    """Whether y may seal, or open, by its address."""
+    """Whether y may put on, or take off, the seal that its address is."""
     address = address_of(y)
-    allowed = (rights_of(y) & RIGHT_TO_SEAL) == RIGHT_TO_SEAL
-    return may_change(y, ygood) and allowed and covers(y, address, address + 1)
+    return may_change(y, ygood) and has_rights(y, RIGHT_TO_SEAL) and covers(y, address, address + 1)
 
 
 def with_part(v, bits, place, part):
-    return v & (ALL_BITS ^ (bits << place)) | (part << place)
+    return (v & (ALL_BITS ^ (bits << place))) | (part << place)
 
 
 def with_stretch(v, power, first, behind):
@@ -175,5 +179,26 @@ def open_seal(v, good, y, ygood):
 
 def is_in(v, w):
     lies_in = covers(w, begin_of(v), end_of(v))
-    has_all = (rights_of(v) & rights_of(w)) == rights_of(v)
-    return [1 if lies_in and has_all and seal_of(v) == seal_of(w) else 0]
+    rights_in = has_rights(w, rights_of(v))
+    return [1 if lies_in and rights_in and seal_of(v) == seal_of(w) else 0]
+
+
+def may(v, good, at, n, rights):
+    if good == 0:
+        return [-1]
+    if seal_of(v) != 0:
+        return [-2]
+    if not has_rights(v, rights):
+        return [-3]
+    # Where n is 0, this lets at be where the stretch ends, too.
+    if not covers(v, at, at + n):
+        return [-4]
+    return [0]
+
+
+def room(n):
+    power = least_power(0, n)
+    if n == 0 or power is None:
+        return [-22]
+    grain = grain_of(power)
+    return [0, grains_up_to(n, grain) * grain, grain]

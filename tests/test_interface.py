@@ -19,6 +19,8 @@ PARAMETERS = {
     "seal": ["v", "good", "y", "ygood"],
     "open_seal": ["v", "good", "y", "ygood"],
     "is_in": ["v", "w"],
+    "may": ["v", "good", "at", "n", "rights"],
+    "room": ["n"],
 }
 SMALL = reference(address=300, upper=60, lower=40, rights=257)
 SEALER = reference(address=3, upper=8, lower=1, rights=256)
@@ -65,9 +67,25 @@ CALLS = [
     (refs.is_in, (SMALL, reference(upper=255, power=15, rights=511))),
     (refs.is_in, (reference(upper=255, power=15, rights=511), SMALL)),
     (refs.is_in, (2 ** 64 - 1, 0)),
+    (refs.may, (SMALL, 1, 300, 16, 1)),
+    (refs.may, (SMALL, 0, 300, 16, 1)),
+    (refs.may, (SEALED, 1, 300, 16, 1)),
+    (refs.may, (SMALL, 1, 300, 16, 2)),
+    (refs.may, (SMALL, 1, 300, 17, 1)),
+    (refs.may, (2 ** 64 - 1, 1, 2 ** 32 - 1, 2 ** 32 - 1, 2 ** 32 - 1)),
 ]
+ROOMS = [
+    (refs.room, (1,)),
+    (refs.room, (257,)),
+    (refs.room, (255 * 2 ** 24,)),
+]
+REFUSED_ROOMS = [
+    (refs.room, (0,)),
+    (refs.room, (2 ** 32 - 1,)),
+]
+CALLS = CALLS + ROOMS + REFUSED_ROOMS
 # All other calls answer a number and a reference.
-LENGTHS = {refs.look: 7, refs.is_in: 1}
+LENGTHS = {refs.look: 7, refs.is_in: 1, refs.may: 1}
 
 
 class Kinds(unittest.TestCase):
@@ -85,6 +103,8 @@ class Kinds(unittest.TestCase):
         self.assertEqual(refs.seal(v=SMALL, good=1, y=SEALER, ygood=1), refs.seal(SMALL, 1, SEALER, 1))
         self.assertEqual(refs.open_seal(v=SEALED, good=1, y=SEALER, ygood=1), refs.open_seal(SEALED, 1, SEALER, 1))
         self.assertEqual(refs.is_in(v=SMALL, w=2 ** 64 - 1), refs.is_in(SMALL, 2 ** 64 - 1))
+        self.assertEqual(refs.may(v=SMALL, good=1, at=300, n=16, rights=2), refs.may(SMALL, 1, 300, 16, 2))
+        self.assertEqual(refs.room(n=10), refs.room(10))
 
     def test_a_list_of_whole_numbers(self):
         for call, given in CALLS:
@@ -95,7 +115,12 @@ class Kinds(unittest.TestCase):
 
     def test_how_many_numbers(self):
         for call, given in CALLS:
-            self.assertEqual(len(call(*given)), LENGTHS.get(call, 2))
+            if call != refs.room:
+                self.assertEqual(len(call(*given)), LENGTHS.get(call, 2))
+        for call, given in ROOMS:
+            self.assertEqual(len(call(*given)), 3)
+        for call, given in REFUSED_ROOMS:
+            self.assertEqual(len(call(*given)), 1)
 
 
 class NothingKept(unittest.TestCase):

@@ -36,7 +36,8 @@ class Less(unittest.TestCase):
 
     def test_only_the_lowest_nine_bits_count(self):
         v = reference(rights=511, **GIVEN)
-        given = ((512, 0), (513, 1), (768, 256), (1023, 511), (2 ** 31, 0), (LAST, 511), (LAST - 511, 0), (LAST - 1, 510))
+        given = ((512, 0), (513, 1), (768, 256), (1023, 511), (2 ** 31, 0), (LAST, 511), (LAST - 511, 0),
+                 (LAST - 1, 510))
         for rights, kept in given:
             self.assertEqual(less(v, 1, rights), [1, reference(rights=kept, **GIVEN)])
         for bit in range(9, 32):
